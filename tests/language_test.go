@@ -1,0 +1,79 @@
+package tests
+
+import (
+	"bytes"
+	"go/ast"
+	"go/format"
+	"go/parser"
+	"go/token"
+	"os"
+	"path/filepath"
+	"strings"
+	"testing"
+)
+
+const allowedImports = " bytes cmp container/heap errors iter maps math math/bits slices sort strconv strings sync sync/atomic unicode unicode/utf8 "
+
+const maxLinesOfAFunction = 60
+
+func TestProgramKeepsToItsLanguage(t *testing.T) {
+	paths, err := filepath.Glob("../impl/*")
+	if err != nil {
+		t.Fatal(err)
+	}
+	if len(paths) < 20 {
+		t.Fatalf("only %d files in impl", len(paths))
+	}
+	for _, path := range paths {
+		if strings.HasSuffix(path, "_test.go") {
+			continue
+		}
+		if !strings.HasSuffix(path, ".go") {
+			t.Errorf("%s is no Go file", path)
+			continue
+		}
+		text, err := os.ReadFile(path)
+		if err != nil {
+			t.Fatal(err)
+		}
+		checkLayout(t, path, text)
+		checkSyntax(t, path, text)
+	}
+}
+
+func checkLayout(t *testing.T, path string, text []byte) {
+	neat, err := format.Source(text)
+	if err != nil {
+		t.Fatal(err)
+	}
+	if !bytes.Equal(neat, text) {
+		t.Errorf("%s is not in gofmt's layout", path)
+	}
+	for _, mark := range []string{"//go:", "// +build"} {
+		if bytes.Contains(text, []byte(mark)) {
+			t.Errorf("%s has a line with %s", path, mark)
+		}
+	}
+}
+
+func checkSyntax(t *testing.T, path string, text []byte) {
+	files := token.NewFileSet()
+	file, err := parser.ParseFile(files, path, text, 0)
+	if err != nil {
+		t.Fatal(err)
+	}
+	for _, i := range file.Imports {
+		if name := strings.Trim(i.Path.Value, `"`); !strings.Contains(allowedImports, " "+name+" ") {
+			t.Errorf("%s imports %s", path, name)
+		}
+	}
+	for _, d := range file.Decls {
+		f, ok := d.(*ast.FuncDecl)
+		if !ok {
+			continue
+		}
+		if n := files.Position(f.End()).Line - files.Position(f.Pos()).Line + 1; n > maxLinesOfAFunction {
+			t.Errorf("%s: %s has %d lines", path, f.Name.Name, n)
+		}
+	}
+}
