@@ -77,3 +77,27 @@ func checkSyntax(t *testing.T, path string, text []byte) {
 		}
 	}
 }
+
+// No answer tells how the next one is found, so the text is asked: the document wants a heap there.
+func TestOrderWaitsInAHeap(t *testing.T) {
+	file, err := parser.ParseFile(token.NewFileSet(), "../impl/l03_order.go", nil, 0)
+	if err != nil {
+		t.Fatal(err)
+	}
+	calls := map[string]int{}
+	ast.Inspect(file, func(n ast.Node) bool {
+		if call, ok := n.(*ast.CallExpr); ok {
+			if f, ok := call.Fun.(*ast.SelectorExpr); ok {
+				if from, ok := f.X.(*ast.Ident); ok {
+					calls[from.Name+"."+f.Sel.Name]++
+				}
+			}
+		}
+		return true
+	})
+	for _, name := range []string{"heap.Push", "heap.Pop"} {
+		if calls[name] == 0 {
+			t.Errorf("%s is not called in l03_order.go", name)
+		}
+	}
+}
