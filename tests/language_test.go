@@ -101,3 +101,26 @@ func TestOrderWaitsInAHeap(t *testing.T) {
 		}
 	}
 }
+
+// Nor does an answer tell how a kind is numbered or a case goes on: the document wants iota and fallthrough there.
+func TestDeedsByIotaAndFallthrough(t *testing.T) {
+	file, err := parser.ParseFile(token.NewFileSet(), "../impl/l04_deed.go", nil, 0)
+	if err != nil {
+		t.Fatal(err)
+	}
+	met := map[string]int{}
+	ast.Inspect(file, func(n ast.Node) bool {
+		switch x := n.(type) {
+		case *ast.Ident:
+			met[x.Name]++
+		case *ast.BranchStmt:
+			met[x.Tok.String()]++
+		}
+		return true
+	})
+	for _, way := range []string{"iota", "fallthrough"} {
+		if met[way] == 0 {
+			t.Errorf("there is no %s in l04_deed.go", way)
+		}
+	}
+}
