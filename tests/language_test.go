@@ -4,8 +4,10 @@ import (
 	"bytes"
 	"go/ast"
 	"go/format"
+	"go/importer"
 	"go/parser"
 	"go/token"
+	"go/types"
 	"os"
 	"path/filepath"
 	"strings"
@@ -122,5 +124,37 @@ func TestDeedsByIotaAndFallthrough(t *testing.T) {
 		if met[way] == 0 {
 			t.Errorf("there is no %s in l04_deed.go", way)
 		}
+	}
+}
+
+// What a selector reaches through an embedded part is told by types alone, so the whole program is looked at.
+func TestClerkUsesTheMethodsOfItsDeeds(t *testing.T) {
+	paths, err := filepath.Glob("../impl/*.go")
+	if err != nil {
+		t.Fatal(err)
+	}
+	set := token.NewFileSet()
+	files := []*ast.File{}
+	for _, path := range paths {
+		file, err := parser.ParseFile(set, path, nil, 0)
+		if err != nil {
+			t.Fatal(err)
+		}
+		files = append(files, file)
+	}
+	info := &types.Info{Selections: map[*ast.SelectorExpr]*types.Selection{}}
+	config := types.Config{Importer: importer.ForCompiler(set, "source", nil)}
+	if _, err := config.Check("impl", set, files, info); err != nil {
+		t.Fatal(err)
+	}
+	promoted := 0
+	for at, chosen := range info.Selections {
+		inWork := filepath.Base(set.Position(at.Pos()).Filename) == "l05_work.go"
+		if inWork && chosen.Kind() == types.MethodVal && len(chosen.Index()) > 1 {
+			promoted++
+		}
+	}
+	if promoted == 0 {
+		t.Error("no method of an embedded part is used in l05_work.go")
 	}
 }
