@@ -315,26 +315,10 @@ func TestWorkAtEachLimit(t *testing.T) {
 	}
 }
 
-func TestWorksByHand(t *testing.T) {
+// wrongWorks has each way in which a work is refused.
+func wrongWorks() [][][]impl.Deed {
 	five, six := clerkOf(times(5, "wait")...), clerkOf(times(6, "wait")...)
-	for _, w := range [][][]impl.Deed{
-		{{}}, {nil}, {{}, {}}, {nil, nil, nil}, {five}, {five, five}, {{}, {}, five},
-		// 12 Deeds in all.
-		{five, five, clerkOf("wait", "wait")},
-		{clerkOf("wait", "read x"), five, clerkOf("read x", "read y", "wait", "write x 1", "swap y 1")},
-		// 6 events in all.
-		{clerkOf("read x", "read x", "read x", "read x", "read x"), clerkOf("write x 1")},
-		{clerkOf("swap x 1", "swap x 1", "swap x 1")},
-		{clerkOf("swap x 1", "read x"), clerkOf("swap y 1"), clerkOf("write z 9")},
-		{clerkOf("swap x 1", "wait"), clerkOf("swap x 1", "wait"), clerkOf("swap x 1", "wait")},
-		// Groups side by side.
-		{clerkOf("read x in 1", "write y 1 in 1", "read x in 2", "read x in 2")},
-		{clerkOf("read x", "read x in 9", "wait", "read x in 1"), clerkOf("read x in 2", "read y in 3")},
-		{clerkOf("read x in 1"), clerkOf("read x"), clerkOf("read x in 2")},
-	} {
-		mustBeWork(t, w)
-	}
-	for _, w := range [][][]impl.Deed{
+	return [][][]impl.Deed{
 		nil, {}, {{}, {}, {}, {}}, {nil, nil, nil, nil}, {clerkOf("wait"), nil, nil, clerkOf("wait")},
 		{six}, {{}, six}, {{}, {}, six}, {six, {}},
 		// 13 Deeds in all, of at most 5 each.
@@ -362,7 +346,29 @@ func TestWorksByHand(t *testing.T) {
 		// Deeds that are not right.
 		{{{}}}, {{}, {{}}}, {clerkOf("read x"), {{Kind: 5}}}, {{{Kind: 1, Group: 10}}}, {{{Kind: 1, Group: -1}, {Kind: 1, Group: -1}}},
 		{{{Kind: 4, Group: 1}}}, {{{Kind: 3, Value: 1, Group: 1}}}, {{{Kind: 1, Group: 11}}, {{Kind: 1, Group: 12}}},
+	}
+}
+
+func TestWorksByHand(t *testing.T) {
+	five := clerkOf(times(5, "wait")...)
+	for _, w := range [][][]impl.Deed{
+		{{}}, {nil}, {{}, {}}, {nil, nil, nil}, {five}, {five, five}, {{}, {}, five},
+		// 12 Deeds in all.
+		{five, five, clerkOf("wait", "wait")},
+		{clerkOf("wait", "read x"), five, clerkOf("read x", "read y", "wait", "write x 1", "swap y 1")},
+		// 6 events in all.
+		{clerkOf("read x", "read x", "read x", "read x", "read x"), clerkOf("write x 1")},
+		{clerkOf("swap x 1", "swap x 1", "swap x 1")},
+		{clerkOf("swap x 1", "read x"), clerkOf("swap y 1"), clerkOf("write z 9")},
+		{clerkOf("swap x 1", "wait"), clerkOf("swap x 1", "wait"), clerkOf("swap x 1", "wait")},
+		// Groups side by side.
+		{clerkOf("read x in 1", "write y 1 in 1", "read x in 2", "read x in 2")},
+		{clerkOf("read x", "read x in 9", "wait", "read x in 1"), clerkOf("read x in 2", "read y in 3")},
+		{clerkOf("read x in 1"), clerkOf("read x"), clerkOf("read x in 2")},
 	} {
+		mustBeWork(t, w)
+	}
+	for _, w := range wrongWorks() {
 		mustBeNoWork(t, w)
 	}
 }

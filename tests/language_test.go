@@ -158,3 +158,41 @@ func TestClerkUsesTheMethodsOfItsDeeds(t *testing.T) {
 		t.Error("no method of an embedded part is used in l05_work.go")
 	}
 }
+
+// An event answers the same however it was told apart: the document wants a type switch over shapes of the program's own.
+func TestEventsAreToldApartByATypeSwitch(t *testing.T) {
+	file, err := parser.ParseFile(token.NewFileSet(), "../impl/l06_event.go", nil, 0)
+	if err != nil {
+		t.Fatal(err)
+	}
+	own, asked := map[string]bool{}, []string{}
+	ast.Inspect(file, func(n ast.Node) bool {
+		switch x := n.(type) {
+		case *ast.TypeSpec:
+			own[x.Name.Name] = true
+		case *ast.TypeSwitchStmt:
+			asked = append(asked, typesAsked(x)...)
+		}
+		return true
+	})
+	if len(asked) < 2 {
+		t.Errorf("only %v are asked for in l06_event.go", asked)
+	}
+	for _, name := range asked {
+		if !own[name] {
+			t.Errorf("%s is no shape of l06_event.go", name)
+		}
+	}
+}
+
+func typesAsked(s *ast.TypeSwitchStmt) []string {
+	names := []string{}
+	for _, clause := range s.Body.List {
+		for _, of := range clause.(*ast.CaseClause).List {
+			if name, ok := of.(*ast.Ident); ok {
+				names = append(names, name.Name)
+			}
+		}
+	}
+	return names
+}
