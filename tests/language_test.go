@@ -196,3 +196,49 @@ func typesAsked(s *ast.TypeSwitchStmt) []string {
 	}
 	return names
 }
+
+// A line is the same whoever draws it: the document wants a variadic helper for it.
+func TestLinesByAVariadicHelper(t *testing.T) {
+	file, err := parser.ParseFile(token.NewFileSet(), "../impl/l07_line.go", nil, 0)
+	if err != nil {
+		t.Fatal(err)
+	}
+	helpers, faces, users := map[string]bool{}, 0, 0
+	for _, d := range file.Decls {
+		if f, ok := d.(*ast.FuncDecl); ok && isVariadic(f) {
+			helpers[f.Name.Name] = true
+		}
+	}
+	for _, d := range file.Decls {
+		if f, ok := d.(*ast.FuncDecl); ok && f.Name.IsExported() {
+			faces++
+			if callsOneOf(f, helpers) {
+				users++
+			}
+		}
+	}
+	if faces != 3 || users != faces {
+		t.Errorf("%d of %d functions draw by a variadic helper of l07_line.go: %v", users, faces, helpers)
+	}
+}
+
+func isVariadic(f *ast.FuncDecl) bool {
+	n := len(f.Type.Params.List)
+	if n == 0 {
+		return false
+	}
+	_, is := f.Type.Params.List[n-1].Type.(*ast.Ellipsis)
+	return is
+}
+
+func callsOneOf(f *ast.FuncDecl, names map[string]bool) bool {
+	calls := false
+	ast.Inspect(f, func(n ast.Node) bool {
+		if call, ok := n.(*ast.CallExpr); ok {
+			name, ok := call.Fun.(*ast.Ident)
+			calls = calls || ok && names[name.Name]
+		}
+		return true
+	})
+	return calls
+}
