@@ -127,8 +127,9 @@ func TestDeedsByIotaAndFallthrough(t *testing.T) {
 	}
 }
 
-// What a selector reaches through an embedded part is told by types alone, so the whole program is looked at.
-func TestClerkUsesTheMethodsOfItsDeeds(t *testing.T) {
+// lookAtProgram tells what types know of the whole program; where in it something stands is told by the positions.
+func lookAtProgram(t *testing.T) (*token.FileSet, []*ast.File, *types.Info) {
+	t.Helper()
 	paths, err := filepath.Glob("../impl/*.go")
 	if err != nil {
 		t.Fatal(err)
@@ -142,11 +143,17 @@ func TestClerkUsesTheMethodsOfItsDeeds(t *testing.T) {
 		}
 		files = append(files, file)
 	}
-	info := &types.Info{Selections: map[*ast.SelectorExpr]*types.Selection{}}
+	info := &types.Info{Types: map[ast.Expr]types.TypeAndValue{}, Selections: map[*ast.SelectorExpr]*types.Selection{}}
 	config := types.Config{Importer: importer.ForCompiler(set, "source", nil)}
 	if _, err := config.Check("impl", set, files, info); err != nil {
 		t.Fatal(err)
 	}
+	return set, files, info
+}
+
+// What a selector reaches through an embedded part is told by types alone, so the whole program is looked at.
+func TestClerkUsesTheMethodsOfItsDeeds(t *testing.T) {
+	set, _, info := lookAtProgram(t)
 	promoted := 0
 	for at, chosen := range info.Selections {
 		inWork := filepath.Base(set.Position(at.Pos()).Filename) == "l05_work.go"
@@ -241,4 +248,37 @@ func callsOneOf(f *ast.FuncDecl, names map[string]bool) bool {
 		return true
 	})
 	return calls
+}
+
+// A source is the same however one comes to it: the document wants them gone through by a range over a function.
+func TestSourcesByARangeOverAFunction(t *testing.T) {
+	set, files, info := lookAtProgram(t)
+	through := map[string]bool{}
+	for _, file := range files {
+		if filepath.Base(set.Position(file.Pos()).Filename) != "l08_from.go" {
+			continue
+		}
+		for _, d := range file.Decls {
+			if f, ok := d.(*ast.FuncDecl); ok && rangesOverAFunction(f, info) {
+				through[f.Name.Name] = true
+			}
+		}
+	}
+	for _, name := range []string{"SourcesCount", "SourceAt"} {
+		if !through[name] {
+			t.Errorf("%s goes through its sources by no range over a function", name)
+		}
+	}
+}
+
+func rangesOverAFunction(f *ast.FuncDecl, info *types.Info) bool {
+	ranges := false
+	ast.Inspect(f, func(n ast.Node) bool {
+		if loop, ok := n.(*ast.RangeStmt); ok {
+			_, is := info.TypeOf(loop.X).Underlying().(*types.Signature)
+			ranges = ranges || is
+		}
+		return true
+	})
+	return ranges
 }
