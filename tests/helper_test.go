@@ -29,3 +29,15 @@ func power(n int64) int64 {
 	}
 	return p
 }
+
+// listKey tells two lists apart that have at most a number for each event of a work, so that it can be asked whether one came before.
+type listKey struct {
+	length int
+	all    [9]int64
+}
+
+func keyOf(list []int64) listKey {
+	key := listKey{length: len(list)}
+	copy(key.all[:], list)
+	return key
+}

@@ -6,18 +6,6 @@ import (
 	"loop.example/g00411/impl"
 )
 
-// fromKey tells two lists apart that are at most as long as a source can be, so that it can be asked whether one came before.
-type fromKey struct {
-	length int
-	all    [6]int64
-}
-
-func keyOf(from []int64) fromKey {
-	key := fromKey{length: len(from)}
-	copy(key.all[:], from)
-	return key
-}
-
 // isSource asks each write by what it is, not by whether it stands in some list; Events there are none of what is no work.
 func isSource(list []impl.Event, from []int64) bool {
 	reads := readsTold(list)
@@ -87,9 +75,9 @@ func mustJudgeSource(t *testing.T, w [][]impl.Deed, list []impl.Event, from []in
 }
 
 // mustHaveSources holds all that chapter 8 tells of a work, or of what is none, against what the test tells; it answers all sources, by how they are found.
-func mustHaveSources(t *testing.T, w [][]impl.Deed) map[fromKey]int64 {
+func mustHaveSources(t *testing.T, w [][]impl.Deed) map[listKey]int64 {
 	t.Helper()
-	list, met := eventsTold(w), map[fromKey]int64{}
+	list, met := eventsTold(w), map[listKey]int64{}
 	count := sourcesCounted(list)
 	if got := impl.SourcesCount(w); got != count {
 		t.Fatalf("SourcesCount(%v) = %d, want %d", w, got, count)

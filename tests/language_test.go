@@ -282,3 +282,38 @@ func rangesOverAFunction(f *ast.FuncDecl, info *types.Info) bool {
 	})
 	return ranges
 }
+
+// A rows is the same whoever makes it: the document wants a walk for it whose ways back are labels.
+func TestRowsByAWalkWithGoto(t *testing.T) {
+	file, err := parser.ParseFile(token.NewFileSet(), "../impl/l09_row.go", nil, 0)
+	if err != nil {
+		t.Fatal(err)
+	}
+	walks := map[string]bool{}
+	for _, d := range file.Decls {
+		if f, ok := d.(*ast.FuncDecl); ok && goesBackByGoto(f) {
+			walks[f.Name.Name] = true
+		}
+	}
+	for _, d := range file.Decls {
+		f, ok := d.(*ast.FuncDecl)
+		if ok && (f.Name.Name == "RowsCount" || f.Name.Name == "RowsAt") && !callsOneOf(f, walks) {
+			t.Errorf("%s makes its rows by no walk of l09_row.go that goes back by goto: %v", f.Name.Name, walks)
+		}
+	}
+}
+
+// goesBackByGoto asks for a goto that stands behind its label.
+func goesBackByGoto(f *ast.FuncDecl) bool {
+	labels, goesBack := map[string]bool{}, false
+	ast.Inspect(f, func(n ast.Node) bool {
+		switch x := n.(type) {
+		case *ast.LabeledStmt:
+			labels[x.Label.Name] = true
+		case *ast.BranchStmt:
+			goesBack = goesBack || x.Tok == token.GOTO && labels[x.Label.Name]
+		}
+		return true
+	})
+	return goesBack
+}
