@@ -317,3 +317,48 @@ func goesBackByGoto(f *ast.FuncDecl) bool {
 	})
 	return goesBack
 }
+
+// A tale is right or not however it is held: the document wants arrays for it that are compared.
+func TestTalesAreArraysThatAreCompared(t *testing.T) {
+	set, files, info := lookAtProgram(t)
+	compare := map[string]bool{}
+	for _, file := range files {
+		if filepath.Base(set.Position(file.Pos()).Filename) != "l10_tale.go" {
+			continue
+		}
+		for _, d := range file.Decls {
+			if f, ok := d.(*ast.FuncDecl); ok && comparesArrays(f, info) {
+				compare[f.Name.Name] = true
+			}
+		}
+		for _, d := range file.Decls {
+			if f, ok := d.(*ast.FuncDecl); ok && f.Name.Name == "TaleOk" && !comparesArrays(f, info) && !namesOneOf(f, compare) {
+				t.Errorf("TaleOk asks by no arrays that are compared in l10_tale.go: %v", compare)
+			}
+		}
+	}
+}
+
+func comparesArrays(f *ast.FuncDecl, info *types.Info) bool {
+	compares := false
+	ast.Inspect(f, func(n ast.Node) bool {
+		if x, ok := n.(*ast.BinaryExpr); ok && (x.Op == token.EQL || x.Op == token.NEQ) {
+			_, is := info.TypeOf(x.X).Underlying().(*types.Array)
+			compares = compares || is
+		}
+		return true
+	})
+	return compares
+}
+
+// namesOneOf finds methods, too.
+func namesOneOf(f *ast.FuncDecl, names map[string]bool) bool {
+	named := false
+	ast.Inspect(f.Body, func(n ast.Node) bool {
+		if name, ok := n.(*ast.Ident); ok {
+			named = named || names[name.Name]
+		}
+		return true
+	})
+	return named
+}
