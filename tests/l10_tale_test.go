@@ -752,21 +752,22 @@ func handedTales() []impl.Tale {
 	return tales
 }
 
-func TestTalesLeaveTheirArgumentsAlone(t *testing.T) {
+// asking is of a work, of its events as the test tells them, and of a tale; it spoils what it is answered.
+type asking func(w [][]impl.Deed, list []impl.Event, tale impl.Tale)
+
+// mustLeaveTalesAlone hands works and tales with room behind them, and wants all of it as it was.
+func mustLeaveTalesAlone(t *testing.T, ask asking) {
+	t.Helper()
 	for _, w := range taleWorks() {
 		l, list := laid(w), eventsTold(w)
 		before := l.copied()
-		mustHaveTales(t, l.given)
 		first, _ := impl.TaleAt(w, 0)
 		last, _ := impl.TaleAt(w, impl.TalesCount(w)-1)
 		for _, tale := range append(handedTales(), first, last) {
 			from, roomFrom := roomy(tale.From)
 			rows, roomRows := roomy(tale.Rows)
 			beforeFrom, beforeRows := copied(roomFrom), copied(roomRows)
-			given := impl.Tale{From: from, Rows: rows}
-			mustJudgeTale(t, l.given, list, given)
-			spoil(impl.AgainstWeb(l.given, given))
-			spoil(impl.OutcomeOf(l.given, given))
+			ask(l.given, list, impl.Tale{From: from, Rows: rows})
 			if !sameList(roomFrom, beforeFrom) || !sameList(roomRows, beforeRows) {
 				t.Errorf("of %v and %v are left %v and %v", beforeFrom, beforeRows, roomFrom, roomRows)
 			}
@@ -777,8 +778,9 @@ func TestTalesLeaveTheirArgumentsAlone(t *testing.T) {
 	}
 }
 
-// The two lists of a tale that is handed in may lie in one memory, one behind the other, or be one.
-func TestTaleOfListsInOneMemory(t *testing.T) {
+// mustTakeOneMemory hands tales whose two lists lie in one memory, one behind the other, or are one.
+func mustTakeOneMemory(t *testing.T, ask asking) {
+	t.Helper()
 	for _, w := range taleWorks() {
 		list := eventsTold(w)
 		for n := range min(8, talesCounted(list)) {
@@ -786,9 +788,7 @@ func TestTaleOfListsInOneMemory(t *testing.T) {
 			room := append(append(copied(told.From), told.Rows...), 77, -77)
 			before, parted := copied(room), len(told.From)
 			for _, tale := range []impl.Tale{{From: room[:parted], Rows: room[parted : len(room)-2]}, {From: room[:parted], Rows: room[:parted]}, {From: room[parted:], Rows: room[parted:]}, {From: room, Rows: room}} {
-				mustJudgeTale(t, w, list, tale)
-				spoil(impl.AgainstWeb(w, tale))
-				spoil(impl.OutcomeOf(w, tale))
+				ask(w, list, tale)
 			}
 			if !sameList(room, before) {
 				t.Errorf("of %v is left %v", before, room)
@@ -796,6 +796,28 @@ func TestTaleOfListsInOneMemory(t *testing.T) {
 		}
 	}
 }
+
+func askedForTales(t *testing.T) asking {
+	return func(w [][]impl.Deed, list []impl.Event, tale impl.Tale) {
+		mustJudgeTale(t, w, list, tale)
+		spoil(impl.AgainstWeb(w, tale))
+		spoil(impl.OutcomeOf(w, tale))
+	}
+}
+
+func TestTalesLeaveTheirArgumentsAlone(t *testing.T) {
+	mustLeaveTalesAlone(t, askedForTales(t))
+	for _, w := range taleWorks() {
+		l := laid(w)
+		before := l.copied()
+		mustHaveTales(t, l.given)
+		if !l.isAs(before) {
+			t.Errorf("of %v is left %v on %v", w, l.clerks, l.floor)
+		}
+	}
+}
+
+func TestTaleOfListsInOneMemory(t *testing.T) { mustTakeOneMemory(t, askedForTales(t)) }
 
 func copiedTale(tale impl.Tale) impl.Tale {
 	return impl.Tale{From: copied(tale.From), Rows: copied(tale.Rows)}

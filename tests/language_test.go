@@ -238,9 +238,9 @@ func isVariadic(f *ast.FuncDecl) bool {
 	return is
 }
 
-func callsOneOf(f *ast.FuncDecl, names map[string]bool) bool {
+func callsOneOf(within ast.Node, names map[string]bool) bool {
 	calls := false
-	ast.Inspect(f, func(n ast.Node) bool {
+	ast.Inspect(within, func(n ast.Node) bool {
 		if call, ok := n.(*ast.CallExpr); ok {
 			name, ok := call.Fun.(*ast.Ident)
 			calls = calls || ok && names[name.Name]
@@ -361,4 +361,37 @@ func namesOneOf(f *ast.FuncDecl, names map[string]bool) bool {
 		return true
 	})
 	return named
+}
+
+// A web is the same however it is joined: the document wants closures for it.
+func TestWebsAreJoinedByClosures(t *testing.T) {
+	file, err := parser.ParseFile(token.NewFileSet(), "../impl/l11_each.go", nil, 0)
+	if err != nil {
+		t.Fatal(err)
+	}
+	join, users := map[string]bool{}, 0
+	for _, d := range file.Decls {
+		if f, ok := d.(*ast.FuncDecl); ok && joinsByAClosure(f) {
+			join[f.Name.Name] = true
+		}
+	}
+	for _, d := range file.Decls {
+		if f, ok := d.(*ast.FuncDecl); ok && f.Name.Name == "PlaceWeb" && (join[f.Name.Name] || callsOneOf(f, join)) {
+			users++
+		}
+	}
+	if users != 1 {
+		t.Errorf("PlaceWeb joins its webs by no closure of l11_each.go: %v", join)
+	}
+}
+
+func joinsByAClosure(f *ast.FuncDecl) bool {
+	joins := false
+	ast.Inspect(f, func(n ast.Node) bool {
+		if closure, ok := n.(*ast.FuncLit); ok {
+			joins = joins || callsOneOf(closure, map[string]bool{"Joined": true})
+		}
+		return true
+	})
+	return joins
 }
