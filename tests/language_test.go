@@ -395,3 +395,39 @@ func joinsByAClosure(f *ast.FuncDecl) bool {
 	})
 	return joins
 }
+
+// What must be ahead of what is the same however it is listed: the document wants a generic list for it.
+func TestWhatMustBeAheadIsAGenericList(t *testing.T) {
+	file, err := parser.ParseFile(token.NewFileSet(), "../impl/l12_slow.go", nil, 0)
+	if err != nil {
+		t.Fatal(err)
+	}
+	lists, users := genericLists(file), 0
+	for _, d := range file.Decls {
+		// A function that makes such a list is as good as the list's own name.
+		if f, ok := d.(*ast.FuncDecl); ok && f.Recv == nil && !f.Name.IsExported() && namesOneOf(f, lists) {
+			lists[f.Name.Name] = true
+		}
+	}
+	for _, d := range file.Decls {
+		f, ok := d.(*ast.FuncDecl)
+		if ok && (f.Name.Name == "FromOthers" || f.Name.Name == "SlowWeb") && namesOneOf(f, lists) {
+			users++
+		}
+	}
+	if users != 2 {
+		t.Errorf("%d of FromOthers and SlowWeb use a generic list of l12_slow.go: %v", users, lists)
+	}
+}
+
+func genericLists(file *ast.File) map[string]bool {
+	lists := map[string]bool{}
+	ast.Inspect(file, func(n ast.Node) bool {
+		if x, ok := n.(*ast.TypeSpec); ok && x.TypeParams != nil {
+			of, is := x.Type.(*ast.ArrayType)
+			lists[x.Name.Name] = is && of.Len == nil
+		}
+		return true
+	})
+	return lists
+}
