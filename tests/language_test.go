@@ -143,7 +143,7 @@ func lookAtProgram(t *testing.T) (*token.FileSet, []*ast.File, *types.Info) {
 		}
 		files = append(files, file)
 	}
-	info := &types.Info{Types: map[ast.Expr]types.TypeAndValue{}, Selections: map[*ast.SelectorExpr]*types.Selection{}}
+	info := &types.Info{Defs: map[*ast.Ident]types.Object{}, Types: map[ast.Expr]types.TypeAndValue{}, Selections: map[*ast.SelectorExpr]*types.Selection{}}
 	config := types.Config{Importer: importer.ForCompiler(set, "source", nil)}
 	if _, err := config.Check("impl", set, files, info); err != nil {
 		t.Fatal(err)
@@ -398,26 +398,48 @@ func joinsByAClosure(f *ast.FuncDecl) bool {
 
 // What must be ahead of what is the same however it is listed: the document wants a generic list for it.
 func TestWhatMustBeAheadIsAGenericList(t *testing.T) {
-	file, err := parser.ParseFile(token.NewFileSet(), "../impl/l12_slow.go", nil, 0)
-	if err != nil {
-		t.Fatal(err)
+	lists := map[string]bool{}
+	for _, file := range filesNamed(t, "l12_slow.go") {
+		lists = genericLists(file)
 	}
-	lists, users := genericLists(file), 0
-	for _, d := range file.Decls {
-		// A function that makes such a list is as good as the list's own name.
-		if f, ok := d.(*ast.FuncDecl); ok && f.Recv == nil && !f.Name.IsExported() && namesOneOf(f, lists) {
-			lists[f.Name.Name] = true
+	files := filesNamed(t, "l12_slow.go", "l13_strict.go")
+	for _, file := range files {
+		for _, d := range file.Decls {
+			// A function that makes such a list is as good as the list's own name.
+			if f, ok := d.(*ast.FuncDecl); ok && f.Recv == nil && !f.Name.IsExported() && namesOneOf(f, lists) {
+				lists[f.Name.Name] = true
+			}
 		}
 	}
-	for _, d := range file.Decls {
-		f, ok := d.(*ast.FuncDecl)
-		if ok && (f.Name.Name == "FromOthers" || f.Name.Name == "SlowWeb") && namesOneOf(f, lists) {
-			users++
+	for _, name := range []string{"FromOthers", "SlowWeb", "StrictWeb"} {
+		if f := functionNamed(files, name); f == nil || !namesOneOf(f, lists) {
+			t.Errorf("%s uses no generic list of l12_slow.go: %v", name, lists)
 		}
 	}
-	if users != 2 {
-		t.Errorf("%d of FromOthers and SlowWeb use a generic list of l12_slow.go: %v", users, lists)
+}
+
+func filesNamed(t *testing.T, names ...string) []*ast.File {
+	t.Helper()
+	files := []*ast.File{}
+	for _, name := range names {
+		file, err := parser.ParseFile(token.NewFileSet(), "../impl/"+name, nil, 0)
+		if err != nil {
+			t.Fatal(err)
+		}
+		files = append(files, file)
 	}
+	return files
+}
+
+func functionNamed(files []*ast.File, name string) *ast.FuncDecl {
+	for _, file := range files {
+		for _, d := range file.Decls {
+			if f, ok := d.(*ast.FuncDecl); ok && f.Recv == nil && f.Name.Name == name {
+				return f
+			}
+		}
+	}
+	return nil
 }
 
 func genericLists(file *ast.File) map[string]bool {
@@ -430,4 +452,49 @@ func genericLists(file *ast.File) map[string]bool {
 		return true
 	})
 	return lists
+}
+
+// A web is the same whatever it stands behind: the document wants two of them behind an interface, and another interface that is asked for by an assertion.
+func TestTwoWebsStandBehindAnInterface(t *testing.T) {
+	set, files, info := lookAtProgram(t)
+	calls, asks := 0, 0
+	for _, file := range files {
+		if filepath.Base(set.Position(file.Pos()).Filename) != "l13_strict.go" {
+			continue
+		}
+		ast.Inspect(file, func(n ast.Node) bool {
+			switch x := n.(type) {
+			case *ast.SelectorExpr:
+				if chosen := info.Selections[x]; chosen != nil && len(takersOf(info, chosen.Recv())) == 2 {
+					calls++
+				}
+			case *ast.TypeAssertExpr:
+				if x.Type != nil && len(takersOf(info, info.TypeOf(x.X))) == 2 && len(takersOf(info, info.TypeOf(x.Type))) == 1 {
+					asks++
+				}
+			}
+			return true
+		})
+	}
+	if calls == 0 || asks == 0 {
+		t.Errorf("in l13_strict.go %d calls go through an interface that two types have, %d assertions ask for one that one of them has", calls, asks)
+	}
+}
+
+// takersOf are the structs of the program that have an interface of its own.
+func takersOf(info *types.Info, of types.Type) []string {
+	want, is := of.Underlying().(*types.Interface)
+	names := []string{}
+	if !is || want.Empty() {
+		return names
+	}
+	for name, o := range info.Defs {
+		if _, isType := o.(*types.TypeName); !isType {
+			continue
+		}
+		if _, isStruct := o.Type().Underlying().(*types.Struct); isStruct && types.Implements(o.Type(), want) {
+			names = append(names, name.Name)
+		}
+	}
+	return names
 }
