@@ -498,3 +498,36 @@ func takersOf(info *types.Info, of types.Type) []string {
 	}
 	return names
 }
+
+// What can't be has its answer however one comes to it: the document wants it given up by panic, and made a zero by recover at the face.
+func TestWhatCantBeGivesUp(t *testing.T) {
+	files := filesNamed(t, "l14_board.go")
+	giveUp, more := map[string]bool{"panic": true}, true
+	for more {
+		more = false
+		for _, d := range files[0].Decls {
+			if f, ok := d.(*ast.FuncDecl); ok && !f.Name.IsExported() && !giveUp[f.Name.Name] && namesOneOf(f, giveUp) {
+				giveUp[f.Name.Name], more = true, true
+			}
+		}
+	}
+	for _, name := range []string{"BoardOk", "NewBoard", "Reading", "Ended", "ShownBoard"} {
+		f := functionNamed(files, name)
+		if f == nil || !namesOneOf(f, giveUp) || !recoversFirst(f) {
+			t.Errorf("%s gives up by no panic of l14_board.go that it recovers from: %v", name, giveUp)
+		}
+	}
+}
+
+// recoversFirst asks for a deferred function literal ahead of all else, so that nothing can give up before it stands.
+func recoversFirst(f *ast.FuncDecl) bool {
+	if len(f.Body.List) == 0 {
+		return false
+	}
+	first, is := f.Body.List[0].(*ast.DeferStmt)
+	if !is {
+		return false
+	}
+	literal, is := first.Call.Fun.(*ast.FuncLit)
+	return is && callsOneOf(literal, map[string]bool{"recover": true})
+}
