@@ -531,3 +531,61 @@ func recoversFirst(f *ast.FuncDecl) bool {
 	literal, is := first.Call.Fun.(*ast.FuncLit)
 	return is && callsOneOf(literal, map[string]bool{"recover": true})
 }
+
+// A step is done however it is found: the document wants steps to be function fields of a table.
+func TestStepsAreFunctionFieldsOfATable(t *testing.T) {
+	set, files, info := lookAtProgram(t)
+	for _, file := range files {
+		if filepath.Base(set.Position(file.Pos()).Filename) != "l15_step.go" {
+			continue
+		}
+		tables := map[string]bool{}
+		for _, d := range file.Decls {
+			if f, ok := d.(*ast.FuncDecl); ok && makesATableOfFunctions(f, info) {
+				tables[f.Name.Name] = true
+			}
+		}
+		for _, name := range []string{"Possible", "Stepped"} {
+			f := functionNamed([]*ast.File{file}, name)
+			if f == nil || !callsOneOf(f, tables) || !callsAField(f, info) {
+				t.Errorf("%s calls no function field of a table of l15_step.go: %v", name, tables)
+			}
+		}
+	}
+}
+
+// makesATableOfFunctions asks for a literal list of structs that have a function in a field.
+func makesATableOfFunctions(f *ast.FuncDecl, info *types.Info) bool {
+	makes := false
+	ast.Inspect(f, func(n ast.Node) bool {
+		literal, ok := n.(*ast.CompositeLit)
+		if !ok || len(literal.Elts) < 2 {
+			return true
+		}
+		list, isList := info.TypeOf(literal).Underlying().(*types.Slice)
+		if !isList {
+			return true
+		}
+		row, isStruct := list.Elem().Underlying().(*types.Struct)
+		for i := 0; isStruct && i < row.NumFields(); i++ {
+			_, is := row.Field(i).Type().Underlying().(*types.Signature)
+			makes = makes || is
+		}
+		return true
+	})
+	return makes
+}
+
+func callsAField(f *ast.FuncDecl, info *types.Info) bool {
+	calls := false
+	ast.Inspect(f, func(n ast.Node) bool {
+		if call, ok := n.(*ast.CallExpr); ok {
+			if field, ok := call.Fun.(*ast.SelectorExpr); ok {
+				chosen := info.Selections[field]
+				calls = calls || chosen != nil && chosen.Kind() == types.FieldVal
+			}
+		}
+		return true
+	})
+	return calls
+}
