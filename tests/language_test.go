@@ -589,3 +589,65 @@ func callsAField(f *ast.FuncDecl, info *types.Info) bool {
 	})
 	return calls
 }
+
+// What comes of a work is the same however the boards are kept: the document wants them to be keys of a map, which is cleared, and compared as structs.
+func TestBoardsAreKeysOfAMap(t *testing.T) {
+	set, files, info := lookAtProgram(t)
+	for _, file := range files {
+		if filepath.Base(set.Position(file.Pos()).Filename) != "l16_walk.go" {
+			continue
+		}
+		keep, walk := map[string]bool{}, map[string]bool{}
+		for _, d := range file.Decls {
+			if f, ok := d.(*ast.FuncDecl); ok && asksByStructs(f, info) {
+				keep[f.Name.Name] = true
+			}
+		}
+		for _, d := range file.Decls {
+			if f, ok := d.(*ast.FuncDecl); ok && clearsStructs(f, info) && (keep[f.Name.Name] || namesOneOf(f, keep)) {
+				walk[f.Name.Name] = true
+			}
+		}
+		for _, name := range []string{"Ends", "QuickEnds"} {
+			if f := functionNamed([]*ast.File{file}, name); f == nil || !walk[name] && !callsOneOf(f, walk) {
+				t.Errorf("%s keeps its boards in no map of l16_walk.go that is cleared: %v, %v", name, keep, walk)
+			}
+		}
+	}
+}
+
+// isMapByStructs is of a map whose keys are held against each other as structs.
+func isMapByStructs(of types.Type) bool {
+	if of == nil {
+		return false
+	}
+	kept, is := of.Underlying().(*types.Map)
+	if !is {
+		return false
+	}
+	_, is = kept.Key().Underlying().(*types.Struct)
+	return is
+}
+
+func asksByStructs(f *ast.FuncDecl, info *types.Info) bool {
+	asks := false
+	ast.Inspect(f, func(n ast.Node) bool {
+		if x, ok := n.(*ast.IndexExpr); ok {
+			asks = asks || isMapByStructs(info.TypeOf(x.X))
+		}
+		return true
+	})
+	return asks
+}
+
+func clearsStructs(f *ast.FuncDecl, info *types.Info) bool {
+	clears := false
+	ast.Inspect(f, func(n ast.Node) bool {
+		if call, ok := n.(*ast.CallExpr); ok && len(call.Args) == 1 {
+			name, ok := call.Fun.(*ast.Ident)
+			clears = clears || ok && name.Name == "clear" && isMapByStructs(info.TypeOf(call.Args[0]))
+		}
+		return true
+	})
+	return clears
+}
