@@ -363,24 +363,6 @@ func TestEndsOfManyWorks(t *testing.T) {
 	mustHaveMetEnds(t, met)
 }
 
-// Ends are told by tales, too: by those that are SlowOk, and QuickEnds by those that are StrictOk.
-func TestEndsAreWhatTalesTell(t *testing.T) {
-	for _, w := range endedWorks() {
-		slow, strict := map[listKey][]int64{}, map[listKey][]int64{}
-		for n := range impl.TalesCount(w) {
-			tale, _ := impl.TaleAt(w, n)
-			if impl.SlowOk(w, tale) {
-				slow[keyOf(impl.OutcomeOf(w, tale))] = nil
-			}
-			if impl.StrictOk(w, tale) {
-				strict[keyOf(impl.OutcomeOf(w, tale))] = nil
-			}
-		}
-		mustBeJust(t, "Ends", w, impl.Ends(w), slow)
-		mustBeJust(t, "QuickEnds", w, impl.QuickEnds(w), strict)
-	}
-}
-
 // Of reads and swaps alone, and of what is Waited, nobody has notes that another one could miss.
 func TestEndsThatAreAllQuick(t *testing.T) {
 	works, several := [][][]impl.Deed{}, 0
@@ -439,9 +421,11 @@ func endsText(list [][]int64) string {
 	return strings.Join(words, " ")
 }
 
-// Of each work all outcomes, and those of them that come of Quick where they are not the same.
-func TestEndsByHand(t *testing.T) {
-	for _, c := range []struct{ work, ends, quick string }{
+// byHand is a work, all its outcomes, and those of them that come of Quick.
+type byHand struct{ work, ends, quick string }
+
+func endsByHand() []byHand {
+	list := []byHand{
 		// Nobody has a Deed, or waits alone.
 		{"-", "000", ""}, {"- | -", "000", ""}, {"- | - | -", "000", ""}, {"wait", "000", ""}, {"wait; wait | - | wait", "000", ""}, {"wait; wait; wait; wait; wait | wait; wait; wait; wait; wait | wait; wait", "000", ""},
 		// One clerk: it sees what it wrote, whether it waits or not.
@@ -464,11 +448,19 @@ func TestEndsByHand(t *testing.T) {
 		{"write x 1; write y 1 | write x 2; write y 2", "110 120 210 220", ""}, {"write x 1 in 1; write y 1 in 1 | write x 2 in 2; write y 2 in 2", "110 220", ""}, {"write x 1 in 1; write y 1 in 1 | write x 2; write y 2", "110 120 220", ""}, {"write x 1; write y 1 | read y in 1; read x in 1", "00110 01110 11110", ""}, {"write x 1 in 1; write y 1 in 1 | read y; read x", "00110 01110 11110", ""}, {"write x 1 in 1; write y 1 in 1 | read y in 2; read x in 2", "00110 11110", ""},
 		// Swaps see each other, and what was written ahead of them.
 		{"swap x 1 | swap x 2", "01200 20100", ""}, {"swap x 1 | write x 2", "0200 2100", ""}, {"swap x 1 | swap x 2 | swap x 3", "012300 031200 201300 230100 302100 310200", ""}, {"write x 1; swap y 2 | swap y 3; read x", "021130 300120 301120", ""},
-	} {
-		w := clerksNamed(c.work)
+	}
+	for i, c := range list {
+		// Where they are the same they are written once.
 		if c.quick == "" {
-			c.quick = c.ends
+			list[i].quick = c.ends
 		}
+	}
+	return list
+}
+
+func TestEndsByHand(t *testing.T) {
+	for _, c := range endsByHand() {
+		w := clerksNamed(c.work)
 		if got := endsText(impl.Ends(w)); got != c.ends {
 			t.Errorf("Ends of %q are %s, want %s", c.work, got, c.ends)
 		}
@@ -730,12 +722,16 @@ func spoilLists(lists [][]int64) {
 	clear(lists[:cap(lists)])
 }
 
-func TestEndsAreNewMemory(t *testing.T) {
+func TestEndsAreNewMemory(t *testing.T) { mustBeNewMemory(t, impl.Ends, impl.QuickEnds) }
+
+// mustBeNewMemory wants outcomes that share memory with nothing: not with the work, with each other, nor with what is told of it again.
+func mustBeNewMemory(t *testing.T, asks ...func(w [][]impl.Deed) [][]int64) {
+	t.Helper()
 	works := append(memoryWorks(), wrongWorks()...)
 	for _, text := range append(walkedWorks(), greatWorks()[:3]...) {
 		works = append(works, clerksNamed(text))
 	}
-	for i, ask := range []func(w [][]impl.Deed) [][]int64{impl.Ends, impl.QuickEnds} {
+	for i, ask := range asks {
 		for _, w := range works {
 			l := laid(w)
 			before := l.copied()

@@ -651,3 +651,97 @@ func clearsStructs(f *ast.FuncDecl, info *types.Info) bool {
 	})
 	return clears
 }
+
+// What is told is the same whoever asks the tales: the document wants SlowTold alone to ask them by goroutines that a WaitGroup joins, and that send over a channel that is closed.
+func TestSlowToldAloneAsksByGoroutines(t *testing.T) {
+	set, files, info := lookAtProgram(t)
+	atOnce := map[string]bool{}
+	for _, file := range files {
+		name := filepath.Base(set.Position(file.Pos()).Filename)
+		for _, d := range file.Decls {
+			ways := goroutineWays(d, info)
+			if len(ways) > 0 && name != "l17_told.go" {
+				t.Errorf("%s has %v", name, ways)
+			}
+			if f, ok := d.(*ast.FuncDecl); ok && len(ways) > 0 {
+				atOnce[f.Name.Name] = true
+			}
+		}
+	}
+	told, met := filesNamed(t, "l17_told.go"), map[string]bool{}
+	for name := range reachedIn(told, "SlowTold") {
+		for way := range goroutineWays(declaredAs(set, files, "l17_told.go", name), info) {
+			met[way] = true
+		}
+	}
+	for _, way := range []string{"goroutine", "WaitGroup", "Wait", "channel", "send", "close"} {
+		if !met[way] {
+			t.Errorf("SlowTold asks its tales without a %s: %v", way, met)
+		}
+	}
+	for name := range reachedIn(told, "StrictTold") {
+		if atOnce[name] {
+			t.Errorf("StrictTold asks its tales by goroutines, in %s", name)
+		}
+	}
+}
+
+// goroutineWays are those by which something runs beside, is joined, and tells what it found.
+func goroutineWays(within ast.Node, info *types.Info) map[string]bool {
+	ways := map[string]bool{}
+	ast.Inspect(within, func(n ast.Node) bool {
+		switch x := n.(type) {
+		case *ast.GoStmt:
+			ways["goroutine"] = true
+		case *ast.ChanType:
+			ways["channel"] = true
+		case *ast.SendStmt:
+			ways["send"] = true
+		case *ast.CallExpr:
+			if name, ok := x.Fun.(*ast.Ident); ok && name.Name == "close" {
+				ways["close"] = true
+			}
+		case *ast.SelectorExpr:
+			if chosen := info.Selections[x]; chosen != nil && strings.HasSuffix(chosen.Recv().String(), "sync.WaitGroup") {
+				ways["WaitGroup"] = true
+				ways[x.Sel.Name] = true
+				ways["goroutine"] = ways["goroutine"] || x.Sel.Name == "Go"
+			}
+		}
+		return true
+	})
+	return ways
+}
+
+// declaredAs is looked for where types are known.
+func declaredAs(set *token.FileSet, files []*ast.File, base string, name string) *ast.FuncDecl {
+	for _, file := range files {
+		if filepath.Base(set.Position(file.Pos()).Filename) == base {
+			return functionNamed([]*ast.File{file}, name)
+		}
+	}
+	return nil
+}
+
+// reachedIn are the functions of these files that one of them comes to, itself among them.
+func reachedIn(files []*ast.File, first string) map[string]bool {
+	reached, more := map[string]bool{first: true}, true
+	for more {
+		more = false
+		for _, file := range files {
+			for _, d := range file.Decls {
+				f, ok := d.(*ast.FuncDecl)
+				if !ok || f.Recv != nil || reached[f.Name.Name] {
+					continue
+				}
+				for name := range reached {
+					if from := functionNamed(files, name); from != nil && namesOneOf(from, map[string]bool{f.Name.Name: true}) {
+						reached[f.Name.Name], more = true, true
+						break
+					}
+				}
+			}
+		}
+	}
+	return reached
+}
