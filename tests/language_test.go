@@ -745,3 +745,77 @@ func reachedIn(files []*ast.File, first string) map[string]bool {
 	}
 	return reached
 }
+
+// What is refused has its answer whatever is told of it: the document wants it to be an error that is wrapped, and asked by errors.Is and errors.As.
+func TestWhatIsRefusedIsAWrappedError(t *testing.T) {
+	files := filesNamed(t, "l18_judge.go")
+	wraps, refuse := wrappersIn(files[0]), map[string]bool{}
+	for _, d := range files[0].Decls {
+		if f, ok := d.(*ast.FuncDecl); ok && makesOneOf(f, wraps) {
+			refuse[f.Name.Name] = true
+		}
+	}
+	asked := map[string]bool{}
+	for _, face := range []string{"AskOk", "Meets", "Judged", "ReadAsk"} {
+		refuses, asks := false, false
+		for name := range reachedIn(files, face) {
+			f := functionNamed(files, name)
+			if f == nil {
+				continue
+			}
+			refuses = refuses || refuse[name] || namesOneOf(f, refuse)
+			for _, way := range errorsAsked(f) {
+				asked[way], asks = true, true
+			}
+		}
+		if !refuses || !asks {
+			t.Errorf("%s asks for no error that l18_judge.go wraps: %v, made by %v", face, wraps, refuse)
+		}
+	}
+	if !asked["Is"] || !asked["As"] {
+		t.Errorf("asked in l18_judge.go: %v", asked)
+	}
+}
+
+// wrappersIn are the types that have an Unwrap, by which errors.Is and errors.As find what is behind them.
+func wrappersIn(file *ast.File) map[string]bool {
+	wraps := map[string]bool{}
+	for _, d := range file.Decls {
+		f, ok := d.(*ast.FuncDecl)
+		if !ok || f.Recv == nil || f.Name.Name != "Unwrap" {
+			continue
+		}
+		if of, ok := f.Recv.List[0].Type.(*ast.Ident); ok {
+			wraps[of.Name] = true
+		}
+	}
+	return wraps
+}
+
+func makesOneOf(f *ast.FuncDecl, types map[string]bool) bool {
+	makes := false
+	ast.Inspect(f, func(n ast.Node) bool {
+		if literal, ok := n.(*ast.CompositeLit); ok {
+			of, ok := literal.Type.(*ast.Ident)
+			makes = makes || ok && types[of.Name]
+		}
+		return true
+	})
+	return makes
+}
+
+// errorsAsked are the names of errors.Is and errors.As where it calls them.
+func errorsAsked(f *ast.FuncDecl) []string {
+	names := []string{}
+	ast.Inspect(f, func(n ast.Node) bool {
+		if call, ok := n.(*ast.CallExpr); ok {
+			if asked, ok := call.Fun.(*ast.SelectorExpr); ok && (asked.Sel.Name == "Is" || asked.Sel.Name == "As") {
+				if from, ok := asked.X.(*ast.Ident); ok && from.Name == "errors" {
+					names = append(names, asked.Sel.Name)
+				}
+			}
+		}
+		return true
+	})
+	return names
+}
