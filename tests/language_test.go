@@ -819,3 +819,65 @@ func errorsAsked(f *ast.FuncDecl) []string {
 	})
 	return names
 }
+
+// Steps are the same however a loop comes to its end: the document wants one that a label leaves.
+func TestStepsByALoopThatALabelLeaves(t *testing.T) {
+	files := filesNamed(t, "l19_witness.go")
+	leave, more := map[string]bool{}, true
+	for more {
+		more = false
+		for _, d := range files[0].Decls {
+			f, ok := d.(*ast.FuncDecl)
+			if ok && !leave[f.Name.Name] && (leavesByALabel(f) || namesOneOf(f, leave)) {
+				leave[f.Name.Name], more = true, true
+			}
+		}
+	}
+	if !leave["StepsFor"] || !leave["Faithful"] {
+		t.Errorf("StepsFor leaves no loop of l19_witness.go by a label: %v", leave)
+	}
+}
+
+// leavesByALabel asks for a break that would leave no more than a switch or an inner loop if it named no label.
+func leavesByALabel(f *ast.FuncDecl) bool {
+	leaves := false
+	ast.Inspect(f, func(n ast.Node) bool {
+		if labeled, ok := n.(*ast.LabeledStmt); ok {
+			leaves = leaves || isLeftWithin(labeled.Stmt, labeled.Label.Name)
+		}
+		return true
+	})
+	return leaves
+}
+
+func isLeftWithin(loop ast.Stmt, label string) bool {
+	var body *ast.BlockStmt
+	switch x := loop.(type) {
+	case *ast.ForStmt:
+		body = x.Body
+	case *ast.RangeStmt:
+		body = x.Body
+	default:
+		return false
+	}
+	left := false
+	ast.Inspect(body, func(n ast.Node) bool {
+		switch n.(type) {
+		case *ast.SwitchStmt, *ast.TypeSwitchStmt, *ast.SelectStmt, *ast.ForStmt, *ast.RangeStmt:
+			left = left || breaksBy(n, label)
+		}
+		return true
+	})
+	return left
+}
+
+func breaksBy(within ast.Node, label string) bool {
+	breaks := false
+	ast.Inspect(within, func(n ast.Node) bool {
+		if x, ok := n.(*ast.BranchStmt); ok && x.Tok == token.BREAK && x.Label != nil {
+			breaks = breaks || x.Label.Name == label
+		}
+		return true
+	})
+	return breaks
+}
